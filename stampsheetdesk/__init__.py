@@ -1,0 +1,1 @@
+"""A sheet of stamps: what is torn off it, and what could be."""
