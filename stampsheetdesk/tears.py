@@ -11,9 +11,15 @@ WOULD = 2
 PIECES = 3
 FEWEST = 4
 WAYS = 5
+BLOCKS = 6
+STRIPS = 7
+TWO = 8
+BUY = 9
+VALUES = 10
+LOOK = 11
 
 # How many whole numbers a call is handed, by the call's number; begin, take and would have a row and stand apart.
-HANDED = {3: 0, 4: 1, 5: 1}
+HANDED = {3: 0, 4: 1, 5: 1, 6: 1, 7: 1, 8: 2, 9: 1, 10: 0, 11: 0}
 
 NOT_A_SHEET = -1
 NOT_THERE = -2
@@ -104,20 +110,32 @@ def all_blocks(around):
 class Sheet:
     def __init__(self, columns, worth):
         size = len(worth)
+        self.columns = columns
         self.worth = worth
         self.around = [neighbours_of(place, columns, size) for place in range(size)]
         # Taking stamps makes no new blocks, so those of the whole sheet are found once.
         self.whole_blocks = all_blocks(self.around)
         self.there = stamps_at(list(range(size)))
+        self.taken_value = 0
+        self.taken_tears = 0
 
 
 def value_of(sheet, stamps):
     return sum([sheet.worth[place] for place in places_of(stamps)])
 
 
-def tears_of(sheet, block):
-    rest = sheet.there & ~block
+def tears_from(sheet, block, rest):
     return sum([len(places_of(sheet.around[place] & rest)) for place in places_of(block)])
+
+
+def tears_of(sheet, block):
+    return tears_from(sheet, block, sheet.there & ~block)
+
+
+# What is torn between the two is torn with the first, and not once more with the second.
+def tears_of_pair(sheet, pair):
+    rest = sheet.there & ~(pair[0] | pair[1])
+    return tears_of(sheet, pair[0]) + tears_from(sheet, pair[1], rest)
 
 
 # In the order of the whole sheet's blocks: of any two, the first comes first.
@@ -127,6 +145,32 @@ def blocks_there(sheet):
 
 def blocks_worth(sheet, value):
     return [block for block in blocks_there(sheet) if value_of(sheet, block) == value]
+
+
+def blocks_of_so_many(sheet, many):
+    return [block for block in blocks_there(sheet) if len(places_of(block)) == many]
+
+
+# By their first blocks, and of one first block by their second ones: of any two pairs, the first comes first.
+def pairs_worth(sheet, one, other):
+    seconds = blocks_worth(sheet, other)
+    found = []
+    for first in blocks_worth(sheet, one):
+        found.extend([(first, second) for second in seconds if (first & second) == 0])
+    return found
+
+
+def is_strip(sheet, block):
+    places = places_of(block)
+    rows = [place // sheet.columns for place in places]
+    columns = [place % sheet.columns for place in places]
+    return min(rows) == max(rows) or min(columns) == max(columns)
+
+
+def tear_off(sheet, block):
+    sheet.taken_value = sheet.taken_value + value_of(sheet, block)
+    sheet.taken_tears = sheet.taken_tears + tears_of(sheet, block)
+    sheet.there = sheet.there & ~block
 
 
 def told(stamps):
@@ -177,7 +221,7 @@ def take(sheet, places):
     answer = would(sheet, places)
     if answer[0] < 0:
         return answer
-    sheet.there = sheet.there & ~stamps_at(places)
+    tear_off(sheet, stamps_at(places))
     return answer[:2]
 
 
@@ -200,6 +244,41 @@ def fewest(sheet, value):
 
 def ways(sheet, value):
     return [len(blocks_worth(sheet, value))]
+
+
+def blocks(sheet, many):
+    return [len(blocks_of_so_many(sheet, many))]
+
+
+def strips(sheet, many):
+    return [len([block for block in blocks_of_so_many(sheet, many) if is_strip(sheet, block)])]
+
+
+def two(sheet, one, other):
+    found = pairs_worth(sheet, one, other)
+    if len(found) == 0:
+        return [NONE_OF_THAT_VALUE]
+    pair = min(found, key=lambda each: tears_of_pair(sheet, each))
+    return [tears_of_pair(sheet, pair)] + told(pair[0]) + told(pair[1])
+
+
+def buy(sheet, value):
+    answer = fewest(sheet, value)
+    if answer[0] < 0:
+        return answer
+    tear_off(sheet, stamps_at(answer[2:]))
+    return answer
+
+
+def values_there(sheet):
+    found = sorted(set([value_of(sheet, block) for block in blocks_there(sheet)]))
+    return [len(found)] + found
+
+
+def look(sheet):
+    size = len(sheet.worth)
+    shown = [value_of(sheet, sheet.there & stamps_at([place])) for place in range(size)]
+    return [sheet.taken_value, sheet.taken_tears, sheet.columns, size] + shown
 
 
 class Reader:
@@ -233,7 +312,19 @@ def sheet_answer(sheet, call, handed):
         return pieces(sheet)
     if call == FEWEST:
         return fewest(sheet, handed[0])
-    return ways(sheet, handed[0])
+    if call == WAYS:
+        return ways(sheet, handed[0])
+    if call == BLOCKS:
+        return blocks(sheet, handed[0])
+    if call == STRIPS:
+        return strips(sheet, handed[0])
+    if call == TWO:
+        return two(sheet, handed[0], handed[1])
+    if call == BUY:
+        return buy(sheet, handed[0])
+    if call == VALUES:
+        return values_there(sheet)
+    return look(sheet)
 
 
 def handed_over(reader, call):

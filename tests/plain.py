@@ -10,7 +10,11 @@ from itertools import combinations
 class PlainSheet:
     def __init__(self, columns, values):
         self.columns = columns
+        self.places = len(values)
         self.stamps = dict(enumerate(values))
+        self.taken = 0
+        self.torn = 0
+        self.known = {}
 
     def near(self, one, other):
         down = abs(one // self.columns - other // self.columns)
@@ -34,16 +38,28 @@ class PlainSheet:
     def value(self, places):
         return sum(self.stamps[place] for place in places)
 
-    def tears(self, places):
-        rest = set(self.stamps) - set(places)
+    def tears(self, places, gone=()):
+        rest = set(self.stamps) - set(places) - set(gone)
         return sum(1 for a in places for b in rest if self.near(a, b))
 
+    def tear_off(self, places):
+        self.taken += self.value(places)
+        self.torn += self.tears(places)
+        for place in places:
+            del self.stamps[place]
+
+    def is_strip(self, places):
+        rows = {place // self.columns for place in places}
+        columns = {place % self.columns for place in places}
+        return len(rows) == 1 or len(columns) == 1
+
     def blocks(self):
-        there = sorted(self.stamps)
-        for many in range(1, len(there) + 1):
-            for places in combinations(there, many):
-                if len(self.pieces(places)) == 1:
-                    yield list(places)
+        """Found once for each state of the sheet: trying every choice takes long."""
+        there = tuple(sorted(self.stamps))
+        if there not in self.known:
+            choices = [list(places) for many in range(1, len(there) + 1) for places in combinations(there, many)]
+            self.known[there] = [places for places in choices if len(self.pieces(places)) == 1]
+        return self.known[there]
 
     def refusal(self, places):
         if len(set(places)) < len(places) or not set(places) <= set(self.stamps):
@@ -67,8 +83,7 @@ def plain_taken(sheet, places, leave):
     answer = [sheet.value(places), sheet.tears(places)]
     if leave:
         return answer + [len(sheet.pieces(set(sheet.stamps) - set(places)))]
-    for place in places:
-        del sheet.stamps[place]
+    sheet.tear_off(places)
     return answer
 
 
@@ -88,6 +103,61 @@ def plain_fewest(sheet, value):
     return [tears, many] + block
 
 
+def plain_buy(sheet, value):
+    answer = plain_fewest(sheet, value)
+    if answer != [-6]:
+        sheet.tear_off(answer[2:])
+    return answer
+
+
+def plain_two(sheet, one, other):
+    firsts = [(len(block), block) for block in sheet.blocks() if sheet.value(block) == one]
+    seconds = [(len(block), block) for block in sheet.blocks() if sheet.value(block) == other]
+    pairs = [(sheet.tears(first[1]) + sheet.tears(second[1], gone=first[1]), first, second)
+             for first in firsts for second in seconds if not set(first[1]) & set(second[1])]
+    if not pairs:
+        return [-6]
+    tears, first, second = min(pairs)
+    return [tears, first[0]] + first[1] + [second[0]] + second[1]
+
+
+def plain_values(sheet):
+    found = sorted({sheet.value(block) for block in sheet.blocks()})
+    return [len(found)] + found
+
+
+def plain_look(sheet):
+    shown = [sheet.stamps.get(place, 0) for place in range(sheet.places)]
+    return [sheet.taken, sheet.torn, sheet.columns, sheet.places] + shown
+
+
+def plain_ways(sheet, value):
+    return [sum(1 for block in sheet.blocks() if sheet.value(block) == value)]
+
+
+def plain_blocks(sheet, many):
+    return [sum(1 for block in sheet.blocks() if len(block) == many)]
+
+
+def plain_strips(sheet, many):
+    return [sum(1 for block in sheet.blocks() if len(block) == many and sheet.is_strip(block))]
+
+
+ANSWERED = {
+    "take": lambda sheet, places: plain_taken(sheet, places, False),
+    "would": lambda sheet, places: plain_taken(sheet, places, True),
+    "pieces": plain_pieces,
+    "fewest": plain_fewest,
+    "ways": plain_ways,
+    "blocks": plain_blocks,
+    "strips": plain_strips,
+    "two": plain_two,
+    "buy": plain_buy,
+    "values": plain_values,
+    "look": plain_look,
+}
+
+
 def plain_answers(calls):
     """calls: of each its name and what it is handed, as ("take", [0, 1])."""
     sheet = None
@@ -99,12 +169,6 @@ def plain_answers(calls):
             found.append([0] if began else [-1])
         elif sheet is None:
             found.append([-9])
-        elif name in ("take", "would"):
-            found.append(plain_taken(sheet, handed[0], name == "would"))
-        elif name == "pieces":
-            found.append(plain_pieces(sheet))
-        elif name == "fewest":
-            found.append(plain_fewest(sheet, handed[0]))
         else:
-            found.append([sum(1 for block in sheet.blocks() if sheet.value(block) == handed[0])])
+            found.append(ANSWERED[name](sheet, *handed))
     return found

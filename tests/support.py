@@ -3,6 +3,8 @@
 from stampsheetdesk.tears import answers
 
 PIECES = [3]
+VALUES = [10]
+LOOK = [11]
 
 
 def begin(columns, values):
@@ -23,6 +25,38 @@ def fewest(value):
 
 def ways(value):
     return [5, value]
+
+
+def blocks(many):
+    return [6, many]
+
+
+def strips(many):
+    return [7, many]
+
+
+def two(one, other):
+    return [8, one, other]
+
+
+def buy(value):
+    return [9, value]
+
+
+WRITTEN = {
+    "begin": begin,
+    "take": lambda stamps: take(*stamps),
+    "would": lambda stamps: would(*stamps),
+    "pieces": lambda: PIECES,
+    "fewest": fewest,
+    "ways": ways,
+    "blocks": blocks,
+    "strips": strips,
+    "two": two,
+    "buy": buy,
+    "values": lambda: VALUES,
+    "look": lambda: LOOK,
+}
 
 
 def split(numbers):

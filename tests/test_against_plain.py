@@ -3,18 +3,8 @@
 import random
 import unittest
 
-from tests import support
 from tests.plain import plain_answers
-from tests.support import ask
-
-WRITTEN = {
-    "begin": support.begin,
-    "take": lambda stamps: support.take(*stamps),
-    "would": lambda stamps: support.would(*stamps),
-    "pieces": lambda: support.PIECES,
-    "fewest": support.fewest,
-    "ways": support.ways,
-}
+from tests.support import WRITTEN, ask
 
 
 def some_begin(source, most):
@@ -42,13 +32,18 @@ def some_stamps(source, columns):
 def some_calls(source, many, most):
     calls = [some_begin(source, most)]
     while len(calls) < many:
-        name = source.choice(("take", "take", "would", "pieces", "fewest", "ways"))
+        name = source.choice(("take", "take", "would", "pieces", "fewest", "ways", "blocks", "strips", "two", "two",
+                              "buy", "values", "look"))
         if source.random() < 0.05:
             calls.append(some_begin(source, most))
         elif name in ("take", "would"):
             calls.append((name, some_stamps(source, calls[0][1])))
-        elif name == "pieces":
+        elif name in ("pieces", "values", "look"):
             calls.append((name,))
+        elif name == "two":
+            calls.append((name, source.randint(0, 12), source.randint(0, 12)))
+        elif name in ("blocks", "strips"):
+            calls.append((name, source.choice((0, 1, 2, 3, 4, 5, 6, 12, 20))))
         else:
             calls.append((name, source.randint(0, 20)))
     return calls
@@ -75,6 +70,20 @@ class AgainstThePlainWords(unittest.TestCase):
             calls = [("begin", columns, [source.randint(1, 3) for place in range(12)])]
             for value in (0, 1, 2, 3, 7, 12, 20, 36):
                 calls += [("ways", value), ("fewest", value)]
+            self.check(calls)
+
+    def test_every_count_of_full_sheets(self):
+        for columns in (1, 2, 3, 4, 6):
+            calls = [("begin", columns, [1] * 12), ("take", [5])]
+            for many in (0, 1, 2, 3, 4, 6, 11, 12):
+                calls += [("blocks", many), ("strips", many)]
+            self.check(calls)
+
+    def test_pairs_of_small_sheets(self):
+        source = random.Random(4)
+        for columns, places in ((1, 5), (2, 6), (3, 6), (6, 6), (2, 8), (3, 9)):
+            calls = [("begin", columns, [source.randint(1, 2) for place in range(places)])]
+            calls += [("two", one, other) for one in (1, 2, 3, 4) for other in (1, 2, 3, 5)]
             self.check(calls)
 
 

@@ -7,7 +7,22 @@ import unittest
 from unittest import mock
 
 from stampsheetdesk.tears import answers
-from tests.support import PIECES, ask, begin, fewest, take, ways, would
+from tests.plain import plain_answers
+from tests.support import LOOK, PIECES, VALUES, WRITTEN, ask, begin, blocks, buy, fewest, strips, take, two, ways, would
+
+# Each of the twelve calls five times, on a sheet of 12 places.
+TWELVE_TIMES_FIVE = [
+    ("look",), ("begin", 4, [1, 2, 3, 4, 5, 6, 7, 8, 9, 1, 2, 3]), ("look",), ("values",), ("pieces",), ("ways", 9),
+    ("blocks", 1), ("blocks", 5), ("blocks", 12), ("strips", 1), ("strips", 4), ("fewest", 15), ("buy", 15),
+    ("two", 9, 9), ("two", 1, 200), ("would", [4, 5]), ("take", [5]), ("take", [5]), ("pieces",), ("look",),
+    ("begin", 5, [1] * 12), ("ways", 10), ("fewest", 10), ("two", 3, 7), ("buy", 200), ("buy", 10), ("values",),
+    ("would", [0, 11]), ("strips", 2), ("strips", 3), ("blocks", 20), ("take", [0, 11]), ("would", [20]),
+    ("begin", 3, [1] * 12), ("two", 4, 4), ("two", 1, 2), ("buy", 1), ("fewest", 6), ("ways", 6), ("ways", 0),
+    ("pieces",), ("values",), ("take", [4, 7, 10]), ("would", [3, 6]), ("pieces",), ("strips", 0), ("blocks", 0),
+    ("begin", 6, [9, 8, 7, 6, 5, 4, 3, 2, 1, 9, 8, 7]), ("fewest", 9), ("buy", 9), ("would", [4, 10]),
+    ("ways", 16), ("fewest", 72), ("values",), ("begin", 7, [1] * 7), ("look",), ("take", []), ("pieces",),
+    ("values",), ("look",),
+]
 
 
 def joined(*calls):
@@ -35,7 +50,9 @@ class TheLists(unittest.TestCase):
 
     def test_whole_numbers_in_a_list_come_back(self):
         sheet = begin(2, [1, 2, 3, 4])
-        found = answers(joined(PIECES, sheet, would(0), take(0), take(0), PIECES, fewest(9), fewest(90), ways(4)))
+        found = answers(joined(PIECES, sheet, would(0), take(0), take(0), PIECES, fewest(9), fewest(90), ways(4),
+                               LOOK, blocks(1), blocks(9), strips(2), strips(9), two(2, 3), two(9, 9), buy(4), buy(9),
+                               VALUES, LOOK))
         self.assertIs(type(found), list)
         self.assertEqual({type(number) for number in found}, {int})
 
@@ -60,6 +77,17 @@ class TheLists(unittest.TestCase):
         self.assertEqual(found[2:25:2], [[left] for left in range(11, -1, -1)])
         self.assertEqual(found[50:], [[0]] + [[1, 12] + list(range(12))] * 9)
 
+    def test_all_twelve_calls_in_one_list_of_60(self):
+        self.assertEqual(len(TWELVE_TIMES_FIVE), 60)
+        for name in WRITTEN:
+            self.assertEqual(len([call for call in TWELVE_TIMES_FIVE if call[0] == name]), 5, name)
+        written = [WRITTEN[name](*handed) for name, *handed in TWELVE_TIMES_FIVE]
+        self.assertEqual(ask(*written), plain_answers(TWELVE_TIMES_FIVE))
+        calls = joined(*written)
+        first = answers(Unchangeable(calls))
+        self.assertEqual(calls, joined(*written))
+        self.assertEqual(answers(calls), first)
+
     def test_60_begins(self):
         calls = [begin(4, [1] * 12)] * 59 + [ways(12)]
         self.assertEqual(ask(*calls), [[0]] * 59 + [[1]])
@@ -73,7 +101,8 @@ class TheLists(unittest.TestCase):
 
 
 class NothingIsKeptOrChanged(unittest.TestCase):
-    CALLS = joined(begin(3, [1, 2, 3, 4, 5, 6]), take(1), would(0), PIECES, fewest(5), ways(9), take(9), take(0, 5))
+    CALLS = joined(begin(3, [1, 2, 3, 4, 5, 6]), take(1), would(0), PIECES, fewest(5), ways(9), take(9), take(0, 5),
+                   blocks(2), strips(2), two(5, 3), two(5, 99), buy(6), buy(99), VALUES, LOOK)
 
     def test_the_list_handed_in_is_afterwards_as_it_was(self):
         calls = list(self.CALLS)
@@ -87,6 +116,7 @@ class NothingIsKeptOrChanged(unittest.TestCase):
         first = answers(list(self.CALLS))
         self.assertEqual(answers([3]), [1, -9])
         self.assertEqual(answers([1, 1, 0]), [1, -9])
+        self.assertEqual(answers([11]), [1, -9])
         self.assertEqual(answers(list(self.CALLS)), first)
 
     def test_what_came_back_is_not_used_again(self):

@@ -2,11 +2,12 @@
 
 import unittest
 
-from tests.support import PIECES, ask, begin, fewest, last, take, ways, would
+from tests.support import LOOK, PIECES, VALUES, ask, begin, blocks, buy, fewest, last, strips, take, two, ways, would
 
 
 class WithoutASheet(unittest.TestCase):
-    CALLS = (take(0), would(0), take(), would(), PIECES, fewest(1), fewest(0), ways(1), ways(200))
+    CALLS = (take(0), would(0), take(), would(), PIECES, fewest(1), fewest(0), ways(1), ways(200), blocks(0), blocks(1),
+             strips(0), strips(20), two(1, 1), two(0, 200), buy(1), buy(0), VALUES, LOOK)
 
     def test_each_call_but_begin_answers_minus_9(self):
         for call in self.CALLS:
@@ -19,11 +20,15 @@ class WithoutASheet(unittest.TestCase):
                 self.assertEqual(ask(begin(0, [1]), call), [[-1], [-9]])
 
     def test_minus_9_comes_ahead_of_other_refusals(self):
-        self.assertEqual(ask(take(20), take(0, 0), would(0, 2), fewest(0)), [[-9]] * 4)
+        calls = [take(20), take(0, 0), would(0, 2), fewest(0), two(0, 0), two(0, 1), buy(0)]
+        self.assertEqual(ask(*calls), [[-9]] * 7)
 
     def test_what_such_a_call_is_handed_is_read_over(self):
         calls = [take(*range(14)), would(3, 3, 3), fewest(3), ways(3), PIECES, begin(1, [5]), PIECES]
         self.assertEqual(ask(*calls), [[-9]] * 5 + [[0], [1, 1, 0]])
+        # Each number that is handed over would be another call by itself.
+        calls = [blocks(3), strips(10), two(11, 3), two(0, 0), two(8, 9), buy(10), VALUES, LOOK, begin(1, [5]), LOOK]
+        self.assertEqual(ask(*calls), [[-9]] * 8 + [[0], [0, 0, 1, 1, 5]])
 
 
 class Begin(unittest.TestCase):
@@ -77,8 +82,9 @@ class Begin(unittest.TestCase):
         for refused in (begin(0, [1]), begin(7, [1] * 7), begin(1, []), begin(1, [1] * 13), begin(2, [1, 1, 1]),
                         begin(1, [0]), begin(1, [10])):
             with self.subTest(refused=refused):
-                found = ask(begin(2, [1, 2, 3, 4]), take(0), refused, PIECES, would(1, 3))
-                self.assertEqual(found, [[0], [1, 2], [-1], [1, 3, 1, 2, 3], [6, 1, 1]])
+                found = ask(begin(2, [1, 2, 3, 4]), take(0), refused, PIECES, would(1, 3), LOOK)
+                self.assertEqual(found[:5], [[0], [1, 2], [-1], [1, 3, 1, 2, 3], [6, 1, 1]])
+                self.assertEqual(found[5], [1, 2, 2, 4, 0, 2, 3, 4])
 
     def test_a_good_begin_puts_another_sheet_in_its_place(self):
         found = ask(begin(2, [1, 2, 3, 4]), take(0), begin(3, [7, 8, 9]), PIECES, would(0, 1), take(3))

@@ -2,7 +2,7 @@
 
 import unittest
 
-from tests.support import PIECES, ask, begin, fewest, last, take, ways, would
+from tests.support import LOOK, PIECES, VALUES, ask, begin, fewest, last, take, ways, would
 
 #  1 2 3
 #  4 5 6
@@ -115,7 +115,7 @@ class TakeAndWould(unittest.TestCase):
 
 
 class WhatIsChanged(unittest.TestCase):
-    LOOKS = (PIECES, fewest(9), ways(9), would(4), would(0))
+    LOOKS = (PIECES, fewest(9), ways(9), would(4), would(0), VALUES, LOOK)
 
     def test_taken_stamps_are_gone(self):
         found = ask(NINE, take(4, 5), would(4), would(5), PIECES, ways(5), take(3))
